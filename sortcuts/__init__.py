@@ -1,0 +1,1 @@
+"""Sortcuts: programs that sort tables and cut them."""

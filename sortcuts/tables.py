@@ -1,0 +1,44 @@
+"""Tables: tuples of records with equally many values."""
+
+from sortcuts.errors import InvalidTable, MissingColumn
+from sortcuts.limits import MOST_COLUMNS, MOST_RECORDS
+
+
+def is_integer(value):
+    # Python counts True and False among the integers, the document does not.
+    return isinstance(value, int) and not isinstance(value, bool)
+
+
+def is_record(value):
+    if not isinstance(value, tuple) or not 1 <= len(value) <= MOST_COLUMNS:
+        return False
+    return all([is_integer(part) for part in value])
+
+
+def check_table(table):
+    """Raise InvalidTable unless the value is a table."""
+    if not isinstance(table, tuple) or not 1 <= len(table) <= MOST_RECORDS:
+        raise InvalidTable(None)
+    for index, record in enumerate(table):
+        if not is_record(record) or len(record) != len(table[0]):
+            raise InvalidTable(index)
+
+
+def is_table(value):
+    try:
+        check_table(value)
+    except InvalidTable:
+        return False
+    return True
+
+
+def count_columns(table):
+    check_table(table)
+    return len(table[0])
+
+
+def check_columns_below(columns, width):
+    """Raise MissingColumn, with the least such column, if one of the columns is not below the width."""
+    missing = [column for column in columns if column >= width]
+    if missing:
+        raise MissingColumn(min(missing))

@@ -1,0 +1,132 @@
+"""The rules of ../shared/LANGUAGE.md that can be read off the files of the package one by one."""
+
+import ast
+import builtins
+import pathlib
+import re
+import unittest
+
+PACKAGE = pathlib.Path(__file__).resolve().parent.parent / "sortcuts"
+
+BUILTINS = set("""
+    len range enumerate zip min max sum abs sorted reversed int str bool bytes list tuple dict set frozenset
+    isinstance ord repr any all divmod iter next super property staticmethod classmethod
+    Exception ValueError TypeError KeyError IndexError LookupError ZeroDivisionError ArithmeticError
+    OverflowError RuntimeError NotImplementedError AttributeError StopIteration NotImplemented
+""".split())
+
+METHODS = set("""
+    __init__ __eq__ __repr__ __str__ __len__ __enter__ __exit__ __call__ __iter__
+""".split())
+
+BARRED = re.compile(r"""\b(type|typing|typing_extensions|enum|Enum|IntEnum|StrEnum|Flag|IntFlag|Generic|Protocol
+    |ABC|ABCMeta|namedtuple|NamedTuple|TypedDict|TYPE_CHECKING|abstractmethod)\b
+    |dataclass|overload|contextmanager""", re.VERBOSE)
+
+AT_MODULE_LEVEL = (ast.ImportFrom, ast.FunctionDef, ast.ClassDef, ast.Assign)
+NOT_ALLOWED = (ast.Global, ast.AsyncFunctionDef, ast.AsyncFor, ast.AsyncWith, ast.Await, ast.Div, ast.MatMult)
+
+
+def sources():
+    for path in sorted(PACKAGE.glob("*.py")):
+        yield path, path.read_text(encoding="utf-8")
+
+
+def trees():
+    """Each file as Python reads it, by its name without the ending."""
+    return {path.stem: ast.parse(text, path.name) for path, text in sources()}
+
+
+def bound_names(tree):
+    """Every name that the file gives a meaning of its own."""
+    for node in ast.walk(tree):
+        if isinstance(node, (ast.FunctionDef, ast.ClassDef)):
+            yield node.name
+        elif isinstance(node, ast.arg):
+            yield node.arg
+        elif isinstance(node, ast.alias):
+            yield node.asname or node.name
+        elif isinstance(node, ast.Name) and not isinstance(node.ctx, ast.Load):
+            yield node.id
+
+
+class LanguageTest(unittest.TestCase):
+    def test_the_folder_holds_source_files_only(self):
+        names = {path.name for path in PACKAGE.iterdir()} - {"__pycache__"}
+        self.assertIn("__init__.py", names)
+        for name in names:
+            self.assertRegex(name, r"\A[a-z][a-z0-9_]*\.py\Z|\A__init__\.py\Z")
+
+    def test_characters_lines_and_words(self):
+        for path, text in sources():
+            with self.subTest(path.name):
+                self.assertRegex(text, r"\A[ -~\n]*\Z")
+                self.assertLessEqual(len(text.splitlines()), 400)
+                self.assertLessEqual(max(len(line) for line in text.splitlines()), 120)
+                self.assertIsNone(BARRED.search(text))
+
+    def test_functions_are_short(self):
+        for stem, tree in trees().items():
+            for node in ast.walk(tree):
+                if isinstance(node, ast.FunctionDef):
+                    self.assertLessEqual(node.end_lineno - node.lineno + 1, 40, (stem, node.name))
+
+    def test_module_level(self):
+        for stem, tree in trees().items():
+            rest = tree.body[1:] if ast.get_docstring(tree) is not None else tree.body
+            for node in rest:
+                self.assertIsInstance(node, AT_MODULE_LEVEL, (stem, node.lineno))
+
+    def test_imports_name_the_file_that_defines_the_name(self):
+        for stem, tree in trees().items():
+            for node in ast.walk(tree):
+                self.assertNotIsInstance(node, ast.Import, stem)
+                if isinstance(node, ast.ImportFrom):
+                    self.assertEqual(node.level, 0, stem)
+                    self.assertRegex(node.module, r"\Asortcuts\.[a-z_]+\Z", stem)
+                    source = node.module.partition(".")[2]
+                    self.assert_defines(source, [alias.name for alias in node.names])
+
+    def test_no_two_files_import_from_each_other(self):
+        left = {}
+        for stem, tree in trees().items():
+            modules = [node.module for node in ast.walk(tree) if isinstance(node, ast.ImportFrom)]
+            left[stem] = {module.partition(".")[2] for module in modules}
+        while left:
+            free = [stem for stem in left if not left[stem] & set(left)]
+            self.assertTrue(free, f"a circle of imports among {sorted(left)}")
+            left = {stem: left[stem] for stem in left if stem not in free}
+
+    def assert_defines(self, stem, names):
+        tree = ast.parse((PACKAGE / f"{stem}.py").read_text(encoding="utf-8"))
+        defined = [node.name for node in tree.body if isinstance(node, (ast.FunctionDef, ast.ClassDef))]
+        defined += [target.id for node in tree.body if isinstance(node, ast.Assign) for target in node.targets]
+        self.assertLessEqual(set(names), set(defined))
+
+    def test_names(self):
+        for stem, tree in trees().items():
+            own = set(bound_names(tree))
+            for name in own - METHODS:
+                self.assertRegex(name, r"\A[A-Za-z][A-Za-z0-9_]*\Z", stem)
+            self.assertEqual(own & set(dir(builtins)), set(), stem)
+            read = {node.id for node in ast.walk(tree) if isinstance(node, ast.Name)}
+            self.assertLessEqual(read - own, BUILTINS, stem)
+
+    def test_statements_and_expressions(self):
+        for stem, tree in trees().items():
+            for node in ast.walk(tree):
+                self.assertNotIsInstance(node, NOT_ALLOWED, stem)
+                if isinstance(node, ast.Constant):
+                    self.assertNotIsInstance(node.value, (float, complex), stem)
+                if isinstance(node, ast.Compare):
+                    self.assert_plain_is(node)
+
+    def assert_plain_is(self, node):
+        for sign, right in zip(node.ops, node.comparators):
+            if isinstance(sign, (ast.Is, ast.IsNot)):
+                self.assertIsInstance(right, ast.Constant)
+                self.assertIn(right.value, (None, True, False))
+
+
+if __name__ == "__main__":
+    unittest.main()
