@@ -2,7 +2,7 @@
 
 from sortcuts.errors import InvalidColumns, InvalidNumber, InvalidOrder
 from sortcuts.limits import MOST_KEYS
-from sortcuts.tables import check_columns_below, count_columns, is_integer
+from sortcuts.tables import check_columns_below, count_columns, every_place, is_integer, records_at
 
 # In the sequence in which Python compares them: the numbers of orders depend on it.
 DIRECTIONS = ("down", "up")
@@ -72,15 +72,20 @@ def sort_values(table, order, place):
     return tuple(found)
 
 
+def sorted_places(table, places, order):
+    """Return these places of the table, in the sequence of their records in the order."""
+    return tuple(sorted(places, key=lambda place: sort_values(table, order, place)))
+
+
 def places_by(table, order):
     width = count_columns(table)
     check_order(order)
     check_columns_below(columns_of(order), width)
-    return tuple(sorted(range(len(table)), key=lambda place: sort_values(table, order, place)))
+    return sorted_places(table, every_place(table), order)
 
 
 def sorted_by(table, order):
-    return tuple([table[place] for place in places_by(table, order)])
+    return records_at(table, places_by(table, order))
 
 
 def check_columns(columns):

@@ -37,6 +37,14 @@ def count_columns(table):
     return len(table[0])
 
 
+def every_place(table):
+    return tuple(range(len(table)))
+
+
+def records_at(table, places):
+    return tuple([table[place] for place in places])
+
+
 def check_columns_below(columns, width):
     """Raise MissingColumn, with the least such column, if one of the columns is not below the width."""
     missing = [column for column in columns if column >= width]

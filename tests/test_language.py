@@ -23,6 +23,17 @@ BARRED = re.compile(r"""\b(type|typing|typing_extensions|enum|Enum|IntEnum|StrEn
     |ABC|ABCMeta|namedtuple|NamedTuple|TypedDict|TYPE_CHECKING|abstractmethod)\b
     |dataclass|overload|contextmanager""", re.VERBOSE)
 
+BUILTIN_METHODS = set("""
+    append clear copy count endswith extend find get index insert isalnum isalpha isdigit islower isspace isupper items
+    join keys ljust lower lstrip partition pop remove replace reverse rfind rjust rpartition rsplit rstrip setdefault
+    split splitlines startswith strip update upper values zfill bit_length title capitalize swapcase casefold center
+    expandtabs removeprefix removesuffix rindex isascii isdecimal isnumeric istitle isidentifier isprintable
+""".split())
+
+# These are iterated over where they stand.
+AT_ONCE = {"zip", "enumerate", "reversed", "range"}
+TAKE_AT_ONCE = {"list", "tuple", "dict", "sorted", "sum", "any", "all", "enumerate", "zip", "min", "max"}
+
 AT_MODULE_LEVEL = (ast.ImportFrom, ast.FunctionDef, ast.ClassDef, ast.Assign)
 NOT_ALLOWED = (ast.Global, ast.AsyncFunctionDef, ast.AsyncFor, ast.AsyncWith, ast.Await, ast.Div, ast.MatMult)
 
@@ -48,6 +59,23 @@ def bound_names(tree):
             yield node.asname or node.name
         elif isinstance(node, ast.Name) and not isinstance(node.ctx, ast.Load):
             yield node.id
+
+
+def functions_of(tree):
+    return [node for node in ast.walk(tree) if isinstance(node, (ast.FunctionDef, ast.Lambda))]
+
+
+def local_names(function):
+    """The parameters and local variables of a function."""
+    for node in ast.walk(function):
+        if isinstance(node, ast.arg):
+            yield node.arg
+        elif isinstance(node, ast.Name) and not isinstance(node.ctx, ast.Load):
+            yield node.id
+
+
+def called_name(node):
+    return node.func.id if isinstance(node, ast.Call) and isinstance(node.func, ast.Name) else None
 
 
 class LanguageTest(unittest.TestCase):
@@ -111,6 +139,48 @@ class LanguageTest(unittest.TestCase):
             self.assertEqual(own & set(dir(builtins)), set(), stem)
             read = {node.id for node in ast.walk(tree) if isinstance(node, ast.Name)}
             self.assertLessEqual(read - own, BUILTINS, stem)
+
+    def test_local_names_are_no_names_of_the_file(self):
+        for stem, tree in trees().items():
+            taken = {alias.name for node in tree.body if isinstance(node, ast.ImportFrom) for alias in node.names}
+            taken |= {node.name for node in tree.body if isinstance(node, (ast.ClassDef, ast.FunctionDef))}
+            for function in functions_of(tree):
+                self.assertEqual(set(local_names(function)) & taken, set(), stem)
+
+    def test_methods_that_are_called(self):
+        files = trees()
+        own = {node.name for tree in files.values() for part in ast.walk(tree) if isinstance(part, ast.ClassDef)
+               for node in part.body if isinstance(node, ast.FunctionDef)}
+        for stem, tree in files.items():
+            for node in ast.walk(tree):
+                if isinstance(node, ast.Call) and isinstance(node.func, ast.Attribute):
+                    self.assertIn(node.func.attr, BUILTIN_METHODS | own, (stem, node.lineno))
+
+    def test_ranges_and_the_like_are_iterated_at_once(self):
+        for stem, tree in trees().items():
+            allowed = set()
+            for node in ast.walk(tree):
+                if isinstance(node, (ast.For, ast.comprehension)):
+                    allowed.add(node.iter)
+                elif called_name(node) in TAKE_AT_ONCE or called_name(node) == "reversed":
+                    allowed.update(node.args)
+            for node in ast.walk(tree):
+                if called_name(node) in AT_ONCE:
+                    self.assertIn(node, allowed, (stem, node.lineno))
+
+    def test_parameters_and_decorators(self):
+        for stem, tree in trees().items():
+            for node in functions_of(tree):
+                self.assertEqual(node.args.posonlyargs, [], (stem, node.lineno))
+            for node in ast.walk(tree):
+                if isinstance(node, ast.FunctionDef) and node in tree.body:
+                    self.assertEqual(node.decorator_list, [], (stem, node.lineno))
+
+    def test_strings(self):
+        for stem, tree in trees().items():
+            for node in ast.walk(tree):
+                if isinstance(node, ast.Constant) and isinstance(node.value, str):
+                    self.assertNotIn("%", node.value, (stem, node.lineno))
 
     def test_statements_and_expressions(self):
         for stem, tree in trees().items():
