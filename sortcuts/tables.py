@@ -1,7 +1,7 @@
 """Tables: tuples of records with equally many values."""
 
-from sortcuts.errors import InvalidTable, MissingColumn
-from sortcuts.limits import MOST_COLUMNS, MOST_RECORDS
+from sortcuts.errors import InvalidPlaces, InvalidTable, MissingColumn
+from sortcuts.limits import MOST_COLUMNS, MOST_KEYS, MOST_RECORDS
 
 
 def is_integer(value):
@@ -39,6 +39,33 @@ def count_columns(table):
 
 def every_place(table):
     return tuple(range(len(table)))
+
+
+def is_place(table, value):
+    return is_integer(value) and 0 <= value < len(table)
+
+
+def check_places(table, places):
+    """Raise InvalidPlaces unless the value is a tuple of two or more different places of the table."""
+    if not isinstance(places, tuple) or len(places) < 2:
+        raise InvalidPlaces(None)
+    for index, place in enumerate(places):
+        if not is_place(table, place) or place in places[:index]:
+            raise InvalidPlaces(index)
+
+
+def sort_columns(table):
+    """Return the columns of the table that programs can sort by."""
+    return list(range(min(len(table[0]), MOST_KEYS)))
+
+
+def values_in(table, column):
+    return [record[column] for record in table]
+
+
+def steps_within(groups, values):
+    """Return by how much the value changes from each place to the next one in its group; each place has a value."""
+    return [values[after] - values[before] for group in groups for before, after in zip(group, group[1:])]
 
 
 def records_at(table, places):

@@ -1,8 +1,11 @@
 """The document's words about programs, followed command by command, to hold the package against."""
 
 import contextlib
+import itertools
 import random
 import sys
+
+from tests.samples import every_order
 
 UP = (("place", "up"),)
 
@@ -82,6 +85,45 @@ def expected_short(picks):
 def expected_normal_form(program):
     picks, order = expected_picks(program)
     return expected_short(picks), order
+
+
+def expected_order(table, places, order):
+    """The places in the sequence of the order: stable sorts, the least important element first."""
+    for part, direction in reversed(order):
+        places = sorted(
+            places, key=lambda place: place if part == "place" else table[place][part], reverse=direction == "down")
+    return tuple(places)
+
+
+def orders_of(table):
+    return list(every_order(min(4, len(table[0]))))
+
+
+def expected_left(table):
+    """All that cutting off last records can leave, as sets of two or more places."""
+    orders = orders_of(table)
+    found = {frozenset(range(len(table)))}
+    fresh = list(found)
+    while fresh:
+        kept = fresh.pop()
+        for place in {expected_order(table, sorted(kept), order)[-1] for order in orders}:
+            fewer = kept - {place}
+            if len(fewer) >= 2 and fewer not in found:
+                found.add(fewer)
+                fresh.append(fewer)
+    return {kept for kept in found if len(kept) >= 2}
+
+
+def expected_ways(table):
+    """All that some program leads to, as tuples of two or more places."""
+    orders = orders_of(table)
+    return {expected_order(table, sorted(kept), order) for kept in expected_left(table) for order in orders}
+
+
+def every_sequence(table):
+    """All tuples of two or more different places."""
+    for count in range(2, len(table) + 1):
+        yield from itertools.permutations(range(len(table)), count)
 
 
 def random_table(source, columns, records):

@@ -1,4 +1,4 @@
-"""Orders, and values that are not orders, for several test files."""
+"""Orders and tables, and values that are none, for several test files."""
 
 import itertools
 
@@ -75,6 +75,24 @@ WRONG_ORDERS = (
     (((0, "up"), (Odd(), "up")), 1),
     (((0, "up"), ("place", Odd())), 1),
     (((0, "up"), Odd()), 1),
+)
+
+# Values that are not tables, each with the index of the error.
+WRONG_TABLES = (
+    ((), None), ([(1,)], None), (((1,),) * 31, None), (None, None), ("1", None), (((3, 1), (1,)), 1),
+    (((1,), (True,)), 1), (((False,), (1,)), 0), (((),), 0), (((1, 2, 3, 4, 5, 6),), 0), (((1,), [1]), 1), ((1, 2), 0),
+)
+
+# For a table of three records: values that are not places, each with the index of the error.
+WRONG_PLACES = (
+    (None, None), (True, None), (False, None), (0, None), ("", None), ("01", None), (b"01", None), ([], None),
+    ([0, 1], None), ({}, None), ({0: 1, 1: 0}, None), ({0, 1}, None), (range(2), None), (Odd(), None),
+    ((), None), ((0,), None), ((3,), None), ((None,), None), (((0, 1),), None),
+    ((0, 3), 1), ((3, 0), 0), ((0, -1), 1), ((-1, 0), 0), ((10 ** 39, 0), 0), ((0, -(10 ** 39)), 1),
+    ((0, 0), 1), ((0, 1, 0), 2), ((2, 1, 1, 7), 2), ((0, 1, 2, 3), 3), ((0, 1, 2, 0), 3), ((2, 1, 0) * 20, 3),
+    ((True, 0), 0), ((0, True), 1), ((1, False), 1), ((0, 1, True), 2), ((1, 0, False), 2), ((False, False), 0),
+    ((0, None), 1), ((None, None), 0), (("0", 1), 0), ((0, "1"), 1), ((0, (1,)), 1), (((0,), 1), 0), ((0, [1]), 1),
+    (([], []), 0), ((0, b"1"), 1), ((0, Odd()), 1), ((Odd(), 0), 0), ((0, {}), 1), ((0, 1, ()), 2),
 )
 
 

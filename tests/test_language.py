@@ -30,6 +30,16 @@ BUILTIN_METHODS = set("""
     expandtabs removeprefix removesuffix rindex isascii isdecimal isnumeric istitle isidentifier isprintable
 """.split())
 
+# Names that nothing may have; those of builtins are looked for by themselves.
+BARRED_NAMES = set("""
+    register mro elements open input version_info with_traceback add_note attrgetter breakpoint builtins compile
+    copyright credits delattr dir eval exec exit gc getattr globals hasattr help id importlib license locals
+    methodcaller os quit setattr super type vars sys property staticmethod classmethod args
+""".split())
+
+# These take a list, not a generator, where a class has an __eq__.
+TAKE_A_LIST = {"any", "all", "min", "max", "sum", "sorted"}
+
 # These are iterated over where they stand.
 AT_ONCE = {"zip", "enumerate", "reversed", "range"}
 TAKE_AT_ONCE = {"list", "tuple", "dict", "sorted", "sum", "any", "all", "enumerate", "zip", "min", "max"}
@@ -72,6 +82,32 @@ def local_names(function):
             yield node.arg
         elif isinstance(node, ast.Name) and not isinstance(node.ctx, ast.Load):
             yield node.id
+
+
+def classes_of(files):
+    return [node for tree in files.values() for node in tree.body if isinstance(node, ast.ClassDef)]
+
+
+def methods_of(node):
+    return [part for part in node.body if isinstance(part, ast.FunctionDef)]
+
+
+def decorators_of(method):
+    return [ast.unparse(part) for part in method.decorator_list]
+
+
+def assigned_attributes(files):
+    return {node.attr for tree in files.values() for node in ast.walk(tree)
+            if isinstance(node, ast.Attribute) and isinstance(node.ctx, ast.Store)}
+
+
+def error_names(files):
+    """The names of the package's own error classes."""
+    return {node.name for node in files["errors"].body if isinstance(node, ast.ClassDef)}
+
+
+def parents_of(tree):
+    return {child: node for node in ast.walk(tree) for child in ast.iter_child_nodes(node)}
 
 
 def called_name(node):
@@ -175,6 +211,91 @@ class LanguageTest(unittest.TestCase):
             for node in ast.walk(tree):
                 if isinstance(node, ast.FunctionDef) and node in tree.body:
                     self.assertEqual(node.decorator_list, [], (stem, node.lineno))
+
+    def test_decorators_of_methods(self):
+        for node in classes_of(trees()):
+            names = {method.name for method in methods_of(node)}
+            allowed = {"property", "staticmethod", "classmethod"} | {f"{name}.setter" for name in names}
+            for method in methods_of(node):
+                self.assertLessEqual(set(decorators_of(method)), allowed, (node.name, method.name))
+                self.assertLessEqual(len(method.decorator_list), 1)
+
+    def test_methods_properties_and_attributes_have_names_of_their_own(self):
+        files = trees()
+        kinds = {}
+        for node in classes_of(files):
+            for method in methods_of(node):
+                marks = decorators_of(method)
+                kind = marks[0].partition(".")[2] or marks[0] if marks else "method"
+                kinds.setdefault(method.name, set()).add("property" if kind == "setter" else kind)
+        for name, found in kinds.items():
+            self.assertEqual(len(found), 1, name)
+            self.assertNotIn(name, BUILTIN_METHODS)
+        plain = {name for name, found in kinds.items() if found != {"property"}}
+        self.assertEqual(plain & assigned_attributes(files), set())
+
+    def test_no_method_is_defined_twice(self):
+        for node in classes_of(trees()):
+            names = [method.name for method in methods_of(node) if not decorators_of(method)[:1] == [f"{method.name}.setter"]]
+            self.assertEqual(len(names), len(set(names)), node.name)
+
+    def test_what_double_underscore_methods_return(self):
+        for node in classes_of(trees()):
+            for method in methods_of(node):
+                if method.name in ("__len__", "__str__", "__repr__"):
+                    self.assertIsInstance(method.body[-1], ast.Return)
+                    for part in ast.walk(method):
+                        if isinstance(part, ast.Return):
+                            self.assert_plain_return(method.name, part.value)
+
+    def assert_plain_return(self, name, value):
+        if name == "__len__":
+            self.assertEqual(called_name(value), "len")
+        elif not isinstance(value, ast.JoinedStr) and called_name(value) not in ("str", "repr"):
+            self.assertEqual(value.func.attr, "join")
+            self.assertIsInstance(value.func.value, ast.Constant)
+
+    def test_super_is_asked_for_a_method_only(self):
+        for stem, tree in trees().items():
+            parents = parents_of(tree)
+            for node in ast.walk(tree):
+                if called_name(node) == "super":
+                    self.assertIsInstance(parents[node], ast.Attribute, stem)
+                    self.assertIsInstance(parents[parents[node]], ast.Call, stem)
+
+    def test_errors_are_created_where_they_are_raised_and_caught_by_their_names(self):
+        files = trees()
+        own = error_names(files)
+        for stem, tree in files.items():
+            for node in ast.walk(tree):
+                if isinstance(node, ast.Raise):
+                    self.assertIn(called_name(node.exc), own, (stem, node.lineno))
+                elif isinstance(node, ast.ExceptHandler):
+                    names = node.type.elts if isinstance(node.type, ast.Tuple) else [node.type]
+                    self.assertLessEqual({name.id for name in names}, own, (stem, node.lineno))
+
+    def test_lists_instead_of_generators(self):
+        for stem, tree in trees().items():
+            for node in ast.walk(tree):
+                if called_name(node) in TAKE_A_LIST:
+                    for given in node.args:
+                        self.assertNotIsInstance(given, ast.GeneratorExp, (stem, node.lineno))
+
+    def test_lists_and_dicts_at_module_level_are_only_read(self):
+        for stem, tree in trees().items():
+            parents = parents_of(tree)
+            kept = {node.targets[0].id for node in tree.body
+                    if isinstance(node, ast.Assign) and isinstance(node.value, (ast.Dict, ast.List))}
+            for node in ast.walk(tree):
+                if isinstance(node, ast.Name) and node.id in kept and isinstance(node.ctx, ast.Load):
+                    self.assertIsInstance(parents[node], (ast.Subscript, ast.Compare), (stem, node.lineno))
+
+    def test_barred_names(self):
+        for stem, tree in trees().items():
+            names = set(bound_names(tree))
+            names |= {node.attr for node in ast.walk(tree) if isinstance(node, ast.Attribute)}
+            names |= {node.arg for node in ast.walk(tree) if isinstance(node, ast.keyword)}
+            self.assertEqual(names & BARRED_NAMES, set(), stem)
 
     def test_strings(self):
         for stem, tree in trees().items():

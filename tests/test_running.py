@@ -7,14 +7,10 @@ from sortcuts.running import each_table, run, run_places
 from tests.checks import NEVER_VALID, ErrorCase
 from tests.program_samples import PROGRAMS, REVERSE, WRONG_PROGRAMS, nest, repeat
 from tests.reference import expected_places, expected_table, random_programs, random_table
+from tests.samples import WRONG_TABLES
 
 TABLE = ((3, 1), (1, 2), (3, 0), (2, 2))
 THIRTY = tuple((place * 7 % 30, place % 4, place // 10, -place) for place in range(30))
-
-WRONG_TABLES = (
-    ((), None), ([(1,)], None), (((1,),) * 31, None), (None, None), ("1", None), (((3, 1), (1,)), 1),
-    (((1,), (True,)), 1), (((False,), (1,)), 0), (((),), 0), (((1, 2, 3, 4, 5, 6),), 0), (((1,), [1]), 1), ((1, 2), 0),
-)
 
 
 def list_tables(table, program):
